@@ -36,3 +36,12 @@ func Door[T any](behind func() T) (answer T, e api.Errno) {
 	}()
 	return behind(), api.OK
 }
+
+// Done: OK, where all behind it was done; or the error that ended it.
+func Done(behind func()) api.Errno {
+	_, e := Door(func() struct{} {
+		behind()
+		return struct{}{}
+	})
+	return e
+}

@@ -44,6 +44,21 @@ func TestHold(t *testing.T) {
 	}
 }
 
+func TestDone(t *testing.T) {
+	reached := 0
+	if e := must.Done(func() { reached++ }); e != api.OK || reached != 1 {
+		t.Errorf("Done: %v, reached %d", e, reached)
+	}
+	e := must.Done(func() {
+		reached++
+		must.OK(api.ErrPower)
+		reached++
+	})
+	if e != api.ErrPower || reached != 2 {
+		t.Errorf("Done with an error: %v, reached %d", e, reached)
+	}
+}
+
 // TestDoors: each door recovers what is behind it alone.
 func TestDoors(t *testing.T) {
 	got, e := must.Door(func() api.Errno {
