@@ -1,0 +1,55 @@
+// Package part writes and reads the parts that kept texts are put together of. A reader's text that ends too soon ends all behind the door of package must, so that who reads needn't speak of errors.
+package part
+
+import (
+	"opaline/api"
+	"opaline/must"
+)
+
+const (
+	eight = 8 // bytes of a number
+	two   = 2 // bytes of a length
+)
+
+// Eight: a number's eight bytes, the highest first.
+func Eight(n uint64) string {
+	var b [eight]byte
+	for i := range b {
+		b[eight-1-i] = byte(n >> (8 * i))
+	}
+	return string(b[:])
+}
+
+// Reader is what of a text isn't read yet.
+type Reader struct{ rest string }
+
+// Read: a text's reader.
+func Read(t string) *Reader { return &Reader{rest: t} }
+
+// More: is there any left?
+func (r *Reader) More() bool { return r.rest != "" }
+
+// Take: so many bytes; ErrForm ends all, where there are fewer.
+func (r *Reader) Take(n int) string {
+	must.Hold(n <= len(r.rest), api.ErrForm)
+	taken := r.rest[:n]
+	r.rest = r.rest[n:]
+	return taken
+}
+
+// Byte: one.
+func (r *Reader) Byte() byte { return r.Take(1)[0] }
+
+// Eight: a number of eight bytes.
+func (r *Reader) Eight() uint64 { return number(r.Take(eight)) }
+
+// Counted: a part that stands behind its length.
+func (r *Reader) Counted() string { return r.Take(int(number(r.Take(two)))) }
+
+func number(b string) uint64 {
+	n := uint64(0)
+	for i := range len(b) {
+		n = n<<8 | uint64(b[i])
+	}
+	return n
+}

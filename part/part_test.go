@@ -1,0 +1,65 @@
+package part_test
+
+import (
+	"encoding/binary"
+	"math"
+	"strings"
+	"testing"
+
+	"opaline/api"
+	"opaline/must"
+	"opaline/part"
+	"opaline/sha"
+)
+
+func TestEight(t *testing.T) {
+	for _, n := range []uint64{0, 1, 255, 256, 0x0102030405060708, 1 << 63, math.MaxUint64 - 1, math.MaxUint64} {
+		s := part.Eight(n)
+		if s != string(binary.BigEndian.AppendUint64(nil, n)) {
+			t.Errorf("Eight of %x: %x", n, s)
+		}
+		r := part.Read(s + "more")
+		if got := r.Eight(); got != n || r.Take(4) != "more" || r.More() {
+			t.Errorf("%x, read again: %x", n, got)
+		}
+	}
+}
+
+func TestReader(t *testing.T) {
+	long := strings.Repeat("l", 65535)
+	_, e := must.Door(func() int {
+		r := part.Read("\x07" + sha.Counted("", "ab", long) + "rest")
+		if !r.More() || r.Byte() != 7 || r.Counted() != "" || r.Counted() != "ab" || r.Counted() != long {
+			t.Error("the parts")
+		}
+		if r.Take(0) != "" || r.Take(3) != "res" || !r.More() || r.Byte() != 't' || r.More() || r.Take(0) != "" {
+			t.Error("the rest")
+		}
+		return 0
+	})
+	if e != api.OK {
+		t.Error(e)
+	}
+}
+
+// TestReaderEnds: what ends too soon is ErrForm, whatever of it is asked for.
+func TestReaderEnds(t *testing.T) {
+	for name, read := range map[string]func(r *part.Reader){
+		"Byte of none":      func(r *part.Reader) { r.Take(9); r.Byte() },
+		"Take of too many":  func(r *part.Reader) { r.Take(10) },
+		"Take of very many": func(r *part.Reader) { r.Take(math.MaxInt) },
+		"Eight of seven":    func(r *part.Reader) { r.Take(2); r.Eight() },
+		"Counted of none":   func(r *part.Reader) { r.Take(9); r.Counted() },
+		"Counted of one":    func(r *part.Reader) { r.Take(8); r.Counted() },
+		"Counted too short": func(r *part.Reader) { r.Counted() },
+	} {
+		reached := false
+		e := must.Done(func() {
+			read(part.Read("\x00\x08abcdefg"))
+			reached = true
+		})
+		if e != api.ErrForm || reached {
+			t.Errorf("%s: %v", name, e)
+		}
+	}
+}
