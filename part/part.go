@@ -8,6 +8,7 @@ import (
 
 const (
 	eight = 8 // bytes of a number
+	four  = 4 // bytes of a smaller one
 	two   = 2 // bytes of a length
 )
 
@@ -18,6 +19,27 @@ func Eight(n uint64) string {
 		b[eight-1-i] = byte(n >> (8 * i))
 	}
 	return string(b[:])
+}
+
+// Four: a number's four bytes, the highest first.
+func Four(n uint32) string { return Eight(uint64(n))[eight-four:] }
+
+// Flag: a byte, 1 of what is so, else 0.
+func Flag(so bool) string {
+	if so {
+		return "\x01"
+	}
+	return "\x00"
+}
+
+// Whole: what a text is, from its first byte to its last one; ErrForm, where something stands behind, or the error that ended the reading.
+func Whole[T any](t string, read func(r *Reader) T) (T, api.Errno) {
+	return must.Door(func() T {
+		r := Read(t)
+		is := read(r)
+		must.Hold(!r.More(), api.ErrForm)
+		return is
+	})
 }
 
 // Reader is what of a text isn't read yet.
@@ -42,6 +64,16 @@ func (r *Reader) Byte() byte { return r.Take(1)[0] }
 
 // Eight: a number of eight bytes.
 func (r *Reader) Eight() uint64 { return number(r.Take(eight)) }
+
+// Four: a number of four bytes.
+func (r *Reader) Four() uint32 { return uint32(number(r.Take(four))) }
+
+// Flag: a byte that says whether something is so; ErrForm ends all, where it is neither 1 nor 0.
+func (r *Reader) Flag() bool {
+	b := r.Byte()
+	must.Hold(b <= 1, api.ErrForm)
+	return b == 1
+}
 
 // Counted: a part that stands behind its length.
 func (r *Reader) Counted() string { return r.Take(int(number(r.Take(two)))) }

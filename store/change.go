@@ -47,16 +47,9 @@ func text(by byte, l []Change) string {
 	out.WriteByte(by)
 	for _, c := range l {
 		out.WriteString(sha.Counted(c.Key, c.Value))
-		out.WriteByte(flag(c.Gone))
+		out.WriteString(part.Flag(c.Gone))
 	}
 	return out.String()
-}
-
-func flag(so bool) byte {
-	if so {
-		return 1
-	}
-	return 0
 }
 
 // parsed is what a text of changes says.
@@ -67,7 +60,7 @@ type parsed struct {
 
 // Parse: the changes that a text is.
 func Parse(t string) (l []Change, all bool, e api.Errno) {
-	out, e := must.Door(func() parsed { return parse(part.Read(t)) })
+	out, e := part.Whole(t, parse)
 	return out.l, out.all, e
 }
 
@@ -87,9 +80,7 @@ func parse(r *part.Reader) parsed {
 }
 
 func changeOf(r *part.Reader) Change {
-	c := Change{Key: r.Counted(), Value: r.Counted()}
-	gone := r.Byte()
-	must.Hold(gone <= 1 && c.check() == api.OK, api.ErrForm)
-	c.Gone = gone == 1
+	c := Change{Key: r.Counted(), Value: r.Counted(), Gone: r.Flag()}
+	must.Hold(c.check() == api.OK, api.ErrForm)
 	return c
 }
