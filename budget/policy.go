@@ -66,7 +66,7 @@ func (p Policy) Back1(b Budget) Budget {
 type Step func(b Budget, tick uint64) (Budget, api.Errno)
 
 // Steps: what can become of a budget.
-func (p Policy) Steps() [4]Step { return [...]Step{p.Spend, p.look, p.lock, p.renew} }
+func (p Policy) Steps() [4]Step { return [4]Step{p.Spend, p.look, p.lock, p.renew} }
 
 func (p Policy) look(b Budget, tick uint64) (Budget, api.Errno) {
 	b, _ = p.At(b, tick)

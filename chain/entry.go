@@ -20,8 +20,8 @@ type Entry struct {
 }
 
 // Words: the kinds'.
-func Words() [lastKind + 1]string {
-	return [...]string{
+func Words() [12]string {
+	return [12]string{
 		"", "register", "login", "deny", "lock", "refill",
 		"recover", "rotate", "remove", "open", "admin", "refund",
 	}
