@@ -32,28 +32,36 @@ func Flag(so bool) string {
 	return "\x00"
 }
 
-// Whole: what a text is, from its first byte to its last one; ErrForm, where something stands behind, or the error that ended the reading.
+// Whole: what a text is, from its first byte to its last one; ErrForm, where it ends too soon, or something stands behind, or the error that ended the reading.
 func Whole[T any](t string, read func(r *Reader) T) (T, api.Errno) {
+	return Uncut(t, api.ErrForm, read)
+}
+
+// Uncut: as Whole, with an error of its own for a text that ends too soon.
+func Uncut[T any](t string, short api.Errno, read func(r *Reader) T) (T, api.Errno) {
 	return must.Door(func() T {
-		r := Read(t)
+		r := &Reader{rest: t, short: short}
 		is := read(r)
 		must.Hold(!r.More(), api.ErrForm)
 		return is
 	})
 }
 
-// Reader is what of a text isn't read yet.
-type Reader struct{ rest string }
+// Reader is what of a text isn't read yet, and what is wrong with one that ends too soon.
+type Reader struct {
+	rest  string
+	short api.Errno
+}
 
-// Read: a text's reader.
-func Read(t string) *Reader { return &Reader{rest: t} }
+// Read: a text's reader; ErrForm ends all, where that ends too soon.
+func Read(t string) *Reader { return &Reader{rest: t, short: api.ErrForm} }
 
 // More: is there any left?
 func (r *Reader) More() bool { return r.rest != "" }
 
-// Take: so many bytes; ErrForm ends all, where there are fewer.
+// Take: so many bytes, or the end of all, where there are fewer.
 func (r *Reader) Take(n int) string {
-	must.Hold(n <= len(r.rest), api.ErrForm)
+	must.Hold(n <= len(r.rest), r.short)
 	taken := r.rest[:n]
 	r.rest = r.rest[n:]
 	return taken

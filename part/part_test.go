@@ -66,6 +66,25 @@ func TestWhole(t *testing.T) {
 	}
 }
 
+// TestUncut: a text that ends too soon has the error that was handed in, one that goes on has ErrForm.
+func TestUncut(t *testing.T) {
+	pair := func(r *part.Reader) [2]string { return [2]string{r.Take(2), r.Counted()} }
+	for s, want := range map[string]api.Errno{
+		"ab\x00\x01c": api.OK, "ab\x00\x00": api.OK,
+		"": api.ErrShort, "a": api.ErrShort, "ab": api.ErrShort, "ab\x00": api.ErrShort, "ab\x00\x01": api.ErrShort,
+		"ab\x00\x01cd": api.ErrForm, "ab\x00\x00c": api.ErrForm,
+	} {
+		got, e := part.Uncut(s, api.ErrShort, pair)
+		if e != want || e != api.OK && got != [2]string{} || e == api.OK && got != [2]string{"ab", s[4:]} {
+			t.Errorf("Uncut of %q: %q, %v", s, got, e)
+		}
+	}
+	refuse := func(*part.Reader) int { must.OK(api.ErrKind); return 1 }
+	if got, e := part.Uncut("more", api.ErrShort, refuse); e != api.ErrKind || got != 0 {
+		t.Errorf("Uncut of what the reading refuses: %d, %v", got, e)
+	}
+}
+
 func TestReader(t *testing.T) {
 	long := strings.Repeat("l", 65535)
 	_, e := must.Door(func() int {
